@@ -8,6 +8,7 @@ import (
 	"slices"
 	"strings"
 	"testing"
+	"unsafe"
 
 	"ecclesia/api"
 	"ecclesia/keccak"
@@ -583,6 +584,34 @@ func TestAlone(t *testing.T) {
 	first := trie.New()
 	holds(t, put(t, trie.New(), "a", "1"), map[string]string{"a": "1"})
 	holds(t, first, nil)
+}
+
+// TestOwn is for R4: an answer's texts are its own, so that no long text stays
+// for the sake of a short piece of it.
+func TestOwn(t *testing.T) {
+	key, value := text(32), text(400)
+	held := map[*byte]bool{unsafe.StringData(key): true, unsafe.StringData(value): true}
+	fresh := func(s string) {
+		t.Helper()
+		at := unsafe.StringData(s)
+		if held[at] {
+			t.Errorf("a text of %d bytes is shared", len(s))
+		}
+		held[at] = true
+	}
+	x := put(t, trie.New(), key, value)
+	fresh(x.Nodes[0].Value)
+	list, _ := trie.Pairs(x)
+	fresh(list[0].Key)
+	fresh(list[0].Value)
+	one, _ := trie.Get(x, key)
+	fresh(one)
+	y := put(t, x, "another", value)
+	fresh(y.Nodes[0].Value)
+	fresh(y.Nodes[1].Value)
+	y, _ = trie.Delete(y, "another")
+	fresh(y.Nodes[0].Value)
+	fresh(put(t, x, key, value).Nodes[0].Value)
 }
 
 // FuzzDeeds is for P10.1 to P10.4: keys that come and go, by any bytes, and
